@@ -149,6 +149,21 @@ func TestAvgOfGreatNumbers(t *testing.T) {
 	wantOf(t, plain("avg"), row{l, fails(api.ErrOver)})
 }
 
+// Promise 17.2 and R1: avgs of numbers of each size, on both sides of 0: as they are, times 10000 and divided they leave 64 bits by little and by much.
+func TestAvgOfEachSize(t *testing.T) {
+	for size := range 60 {
+		for first := range 8 {
+			n := (8 + first) << size
+			for many := 1; many <= 5; many++ {
+				for _, l := range [][]api.Value{wholes(n, n, n, n, n), wholes(-n, -n, -n, -n, -n), decs(n, n, n, n, n), decs(-n, -n, -n, -n, -n)} {
+					l[0].N ^= 1
+					wantOf(t, plain("avg"), row{l[:many], modelOf(plain("avg"), l[:many])})
+				}
+			}
+		}
+	}
+}
+
 // Promise 17.2: a sum and an avg are of KindInt alone, or of KindDec alone: one other is an error, wherever it stands, ahead of ErrOver.
 func TestSumsOfOtherKinds(t *testing.T) {
 	for _, numbers := range [][]api.Value{wholes(1, 2, 3), decs(1, 2, 3), wholes(greatest, greatest, greatest), decs(least, least), wholes(7)} {
